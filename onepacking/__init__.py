@@ -1,0 +1,1 @@
+"""Squeeze: bytes written smaller, without any loss, in one told way alone."""
