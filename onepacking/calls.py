@@ -1,11 +1,16 @@
-"""The calls: each gives back an Answer or raises its refusal."""
+"""The calls that need no state: each gives back an Answer or raises its refusal."""
 
+from onepacking.codes import code_lengths
+from onepacking.coding import SYMBOLS
 from onepacking.packing import BLOCK_SIZE, packed
+from onepacking.parses import block_parse
 from onepacking.reading import RowReader
-from onepacking.refusals import BeyondText, PackedOtherwise, TooLong
+from onepacking.refusals import BeyondText, PackedOtherwise, TooLong, TooOften
 
 MOST_TEXT = 65536
 MOST_ROW = 131072
+MOST_OFTEN = 32768
+MOST_OFTEN_IN_SUM = 65536
 
 
 class Answer:
@@ -65,3 +70,23 @@ def tell_length(row):
     """How many bytes the packed row's text has, and how many blocks."""
     reader = read_part(row, 0, 0)
     return Answer(0, [], [reader.text_size, reader.blocks])
+
+
+def tell_parse(text):
+    """The steps of the block's parse."""
+    if len(text) > BLOCK_SIZE:
+        raise TooLong()
+    parse = block_parse(text)
+    figures = []
+    for step in parse:
+        figures.extend(step)
+    return Answer(len(parse), [], figures)
+
+
+def tell_code(often):
+    """The lengths of a code by how often its symbols come."""
+    if len(often) > SYMBOLS:
+        raise TooLong()
+    if max(often, default=0) > MOST_OFTEN or sum(often) > MOST_OFTEN_IN_SUM:
+        raise TooOften()
+    return Answer(0, code_lengths(often), [])

@@ -17,11 +17,32 @@ class BeyondText(Refusal):
         Refusal.__init__(self, -1, 0, 0)
 
 
+class TooOften(Refusal):
+    """Symbols that come more often than the call takes."""
+
+    def __init__(self):
+        Refusal.__init__(self, -1, 0, 0)
+
+
+class NoState(Refusal):
+    """A state above the highest."""
+
+    def __init__(self):
+        Refusal.__init__(self, -1, 0, 0)
+
+
 class TooLong(Refusal):
-    """More bytes than the call takes."""
+    """More bytes or numbers than the call takes."""
 
     def __init__(self):
         Refusal.__init__(self, -2, 0, 0)
+
+
+class NotBegun(Refusal):
+    """A state that was never begun, or is ended."""
+
+    def __init__(self):
+        Refusal.__init__(self, -3, 0, 0)
 
 
 class NoPackedRow(Refusal):

@@ -18,6 +18,35 @@ def call(number, *rest):
     return given[1:]
 
 
+def answered(*calls):
+    """What's answered to the calls when they're handed in as one list: of each its numbers."""
+    handed = [number for one in calls for number in one]
+    copy = list(handed)
+    given = answers(handed)
+    assert handed == copy
+    told = []
+    while given:
+        told.append(given[1:1 + given[0]])
+        assert len(told[-1]) == given[0]
+        given = given[1 + given[0]:]
+    assert len(told) == len(calls)
+    return told
+
+
+def told_parse(text):
+    """The steps that are answered to parse."""
+    given = call(5, text)
+    assert given[1] == 0 and given[2] == 2 * given[0] == len(given) - 5 and given[-2:] == [0, 0]
+    return list(zip(given[3:-2:2], given[4:-2:2]))
+
+
+def told_lengths(often):
+    """The lengths that are answered to lengths."""
+    given = call(6, often)
+    assert given[:2] == [0, len(often)] and given[2 + len(often):] == [0, 0, 0]
+    return given[2:2 + len(often)]
+
+
 def pack(text):
     given = call(0, text)
     assert given[0] == given[1] and given[2 + given[1]:] == [0, 0, 0]
